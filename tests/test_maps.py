@@ -337,6 +337,8 @@ class CopyTest(MapsTest):
         kinds = ["car"]
         road = ["s", "a", "a", 5, kinds, hours]
         changed = (chart.with_hours("r", hours), chart.with_road(road))
+        self.assertEqual(hours, [[1, 2]])
+        self.assertEqual(road, ["s", "a", "a", 5, ["car"], [[1, 2]]])
         hours[0][0] = 0
         hours.append([8, 9])
         kinds.append("bus")
