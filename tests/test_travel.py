@@ -190,7 +190,8 @@ class RunTest(TravelTest):
         self.assertTrue(all(isinstance(row, tuple) for row in driven))
 
     def test_late_moments(self):
-        self.assertEqual(run(square(), "car", ["ab", "bc"], "a", 100000), [("ab", 100000, 100010), ("bc", 100050, 100070)])
+        driven = run(square(), "car", ["ab", "bc"], "a", 100000)
+        self.assertEqual(driven, [("ab", 100000, 100010), ("bc", 100050, 100070)])
 
     def test_as_early_as_possible_by_enter(self):
         chance = random.Random(3)
