@@ -3,6 +3,9 @@
 from waypapers.errors import InvalidRoute
 from waypapers.maps import HOURS, MINUTES, START
 
+# Stands for the road ahead of the first one of a route: no road has this name.
+NO_ROAD = ""
+
 
 def enter(chart, name, moment):
     """Return the first moment, not ahead of this one, at which the road may be entered, or None."""
@@ -55,6 +58,15 @@ def check_names(chart, kind, places, roads):
 def can_ever_enter(chart, kind, name):
     """Tell whether the kind may use the road and the road is open at some moment."""
     return chart.may_use(kind, name) and chart.road(name)[HOURS] != ()
+
+
+def turns(chart, kind, start):
+    """Return, for NO_ROAD and for each road, the roads that a trip from the start can drive directly behind it."""
+    usable = {name: can_ever_enter(chart, kind, name) for name in chart.road_names}
+    behind = {NO_ROAD: [name for name in chart.roads_from(start) if usable[name]]}
+    for last in chart.road_names:
+        behind[last] = [name for name in chart.followers(last) if usable[name]]
+    return behind
 
 
 def run(chart, kind, route, start, moment):
