@@ -171,8 +171,10 @@ class LabelsTest(AskingTest):
 
     def test_unknown_names_in_their_order(self):
         for question in (labels, places_from):
-            self.assert_unknown("x", question, two_ways([]), "x", "y", 0)
-            self.assert_unknown("y", question, two_ways([]), "car", "y", 0)
+            for chart in (two_ways([]), chart_of()):
+                self.assert_unknown("x", question, chart, "x", "y", 0)
+                self.assert_unknown("x", question, chart, "x", "a", 0)
+                self.assert_unknown("y", question, chart, "car", "y", 0)
 
     def test_new_lists(self):
         for question in (labels, places_from):

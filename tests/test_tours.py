@@ -228,7 +228,7 @@ class TourTest(AskingTest):
                     self.assert_right_tour(chart, "p0", stops, chance.choice([0, 59, 77, 100000]), goal)
 
     def test_larger_maps_with_six_stops(self):
-        for seed in range(2):
+        for seed in (0, 2, 5):
             chart = random_map(seed, places=9, roads=40, bars=40, day=240, minutes=300)
             for goal in (None, "p8"):
                 self.assert_right_tour(chart, "p0", chart.places[1:7], 700, goal)

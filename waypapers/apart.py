@@ -12,9 +12,9 @@ OUT = 1
 ROAD = 0
 SIDE = 1
 
-# All flow comes from outside of the roads, and goes back there behind the goal.
-SOURCE = (NO_ROAD, OUT)
-SINK = (NO_ROAD, INTO)
+# All flow comes out of NO_ROAD at the first place, and goes into it at the second one.
+SOURCE = ("", 1)
+SINK = ("", 0)
 
 
 class Apart:
