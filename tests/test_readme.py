@@ -26,7 +26,7 @@ def examples():
 class ReadmeTest(unittest.TestCase):
     def test_examples(self):
         rows = examples()
-        self.assertGreater(len(rows), 40)
+        self.assertGreater(len(rows), 70)
         for expression, value, told in rows:
             with self.subTest(expression=expression):
                 self.assertEqual(repr(value), told.strip())

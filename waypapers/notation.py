@@ -35,7 +35,7 @@ def hours_words(hours):
 
 def parse_map(text):
     """Return the map whose written form is the text."""
-    rows = [line.split(" ") for line in text.split("\n")]
+    rows = rows_of(text)
     _check_form(rows)
     parts = rows[len(HEADS):]
     return Map(
@@ -45,6 +45,11 @@ def parse_map(text):
         roads=[read_road(words) for words in parts if words[0] == "road"],
         bars=[words[1:] for words in parts if words[0] == "bar"],
     )
+
+
+def rows_of(text):
+    """Return the words of each line of a text. Two spaces side by side, or one at an end, make an empty word."""
+    return [line.split(" ") for line in text.split("\n")]
 
 
 def _check_form(rows):
@@ -129,8 +134,8 @@ def are_names(words):
     return all(is_name(word) for word in words)
 
 
-def is_number(word):
-    """Tell whether the word writes an integer."""
-    if not 1 <= len(word) <= LONGEST_NUMBER:
+def is_number(word, longest=LONGEST_NUMBER):
+    """Tell whether the word writes an integer, with so many digits at most."""
+    if not 1 <= len(word) <= longest:
         return False
     return all(sign in DIGITS for sign in word) and (word == "0" or word[0] != "0")

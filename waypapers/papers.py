@@ -29,8 +29,8 @@ def check_paper(chart, kind, start, goal, moment, told):
     _check_paper_names(chart, kind, start, goal, told)
     if start == goal:
         return told.roads == () and told.arrival == moment
-    numbers = _numbers(told.lows)
-    if not _bounds(chart, kind, start, moment, numbers):
+    numbers = least_numbers(told.lows)
+    if not are_low_enough(chart, kind, start, moment, numbers, None):
         return False
     ends = [numbers[name] for name in chart.roads_to(goal) if name in numbers]
     if told.roads is None or told.arrival is None:
@@ -46,7 +46,7 @@ def _check_paper_names(chart, kind, start, goal, told):
     check_names(chart, kind, [start, goal], [*roads, *[name for name, _ in told.lows]])
 
 
-def _numbers(lows):
+def least_numbers(lows):
     """Return the number of each road that has a label, the least one that the labels tell."""
     numbers = {}
     for name, number in lows:
@@ -54,13 +54,18 @@ def _numbers(lows):
     return numbers
 
 
-def _bounds(chart, kind, start, moment, numbers):
-    """Tell whether labels with these numbers bound the trips."""
+def are_low_enough(chart, kind, start, moment, numbers, until):
+    """Tell whether the numbers of roads show that no trip arrives earlier over a road.
+
+    Arrivals behind the moment `until` need no numbers, unless it is None.
+    """
     behind = turns(chart, kind, start)
     moments = {**numbers, NO_ROAD: moment}
     for last in moments:
         for name in behind[last]:
-            if name not in numbers or numbers[name] > arrive(chart, name, moments[last]):
+            arrival = arrive(chart, name, moments[last])
+            asked = until is None or arrival <= until
+            if asked and (name not in numbers or numbers[name] > arrival):
                 return False
     return True
 

@@ -62,11 +62,15 @@ def can_ever_enter(chart, kind, name):
 
 def turns(chart, kind, start):
     """Return, for NO_ROAD and for each road, the roads that a trip from the start can drive directly behind it."""
-    usable = {name: can_ever_enter(chart, kind, name) for name in chart.road_names}
-    behind = {NO_ROAD: [name for name in chart.roads_from(start) if usable[name]]}
-    for last in chart.road_names:
-        behind[last] = [name for name in chart.followers(last) if usable[name]]
+    behind = road_turns(chart, kind)
+    behind[NO_ROAD] = [name for name in chart.roads_from(start) if can_ever_enter(chart, kind, name)]
     return behind
+
+
+def road_turns(chart, kind):
+    """Return, for each road, the roads that the kind can drive directly behind it."""
+    usable = {name: can_ever_enter(chart, kind, name) for name in chart.road_names}
+    return {last: [name for name in chart.followers(last) if usable[name]] for last in chart.road_names}
 
 
 def run(chart, kind, route, start, moment):
